@@ -1,31 +1,34 @@
-// Package expr: which texts are expressions, and how many characters they have (P5).
+// Package expr: which texts are expressions, what they denote, and how many characters they have (P5).
 package expr
 
-import "lexer/api"
+import (
+	"lexer/api"
+	"lexer/chars"
+)
 
-// Def is a name that may stand in braces, and how many characters it stands for, as Chars tells them.
+// Def is a name that may stand in braces, and what it stands for.
 type Def struct {
-	Name  string
-	Chars int
+	Name string
+	Tree *Tree
 }
 
-// Chars tells how many characters an expression has, and whether the text is one.
-// Whatever is above api.MaxLeaves is told as api.MaxLeaves+1: repetitions of repetitions would outgrow an int.
-func Chars(text string, defs []Def) (int, bool) {
+// Read makes the tree of an expression, and tells whether the text is one.
+func Read(text string, defs []Def) (*Tree, bool) {
 	r := &reader{text: text, defs: defs}
-	n, ok := r.either()
+	t, ok := r.either()
 	if !ok || r.at != len(text) {
-		return 0, false
+		return nil, false
 	}
-	return n, true
+	return t, true
 }
 
-// reader has read the text up to the place at, and stands within depth brackets.
+// reader has read the text up to the place at, and stands within depth brackets; bothCases is whether "(i:" is one of them.
 type reader struct {
-	text  string
-	defs  []Def
-	at    int
-	depth int
+	text      string
+	defs      []Def
+	at        int
+	depth     int
+	bothCases bool
 }
 
 // peek tells the byte that stands so far ahead. Behind the end it is 0, which has no place in an expression.
@@ -47,24 +50,32 @@ func (r *reader) take(word string) bool {
 	return true
 }
 
-func (r *reader) either() (int, bool) {
-	n, ok := r.row()
-	for ok && r.take("|") {
-		more, fine := r.row()
-		n = bounded(n + more)
-		ok = fine
+func (r *reader) either() (*Tree, bool) {
+	t := &Tree{Kind: Either}
+	for {
+		part, ok := r.row()
+		if !ok {
+			return nil, false
+		}
+		t.add(part)
+		if !r.take("|") {
+			return t.plain(), true
+		}
 	}
-	return n, ok
 }
 
-func (r *reader) row() (int, bool) {
-	n, ok := r.thing()
-	for ok && !r.rowEnds() {
-		more, fine := r.thing()
-		n = bounded(n + more)
-		ok = fine
+func (r *reader) row() (*Tree, bool) {
+	t := &Tree{Kind: Row}
+	for {
+		part, ok := r.thing()
+		if !ok {
+			return nil, false
+		}
+		t.add(part)
+		if r.rowEnds() {
+			return t.plain(), true
+		}
 	}
-	return n, ok
 }
 
 func (r *reader) rowEnds() bool {
@@ -75,73 +86,85 @@ func (r *reader) rowEnds() bool {
 	return c == '|' || c == ')'
 }
 
-func (r *reader) thing() (int, bool) {
-	n, ok := r.atom()
+func (r *reader) thing() (*Tree, bool) {
+	t, ok := r.atom()
 	for ok && r.isRepeated() {
-		t, fine := r.howOften()
-		n = bounded(n * t.factor())
+		often, fine := r.howOften()
+		t = again(t, often)
 		ok = fine
 	}
-	return n, ok
+	return t, ok
 }
 
-func (r *reader) atom() (int, bool) {
-	c := r.peek(0)
-	switch c {
+func (r *reader) atom() (*Tree, bool) {
+	switch r.peek(0) {
 	case '(':
 		return r.bracket()
 	case '{':
 		return r.name()
-	case '[':
-		ok := r.class()
-		return 1, ok
-	case '\\':
-		_, ok := r.escape()
-		return 1, ok
 	}
-	if c != '.' && !isPlain(c) {
-		return 0, false
+	s, ok := r.set()
+	if !ok {
+		return nil, false
+	}
+	if r.bothCases {
+		s = s.BothCases()
+	}
+	return one(s), true
+}
+
+// set reads what stands for one character.
+func (r *reader) set() (chars.Set, bool) {
+	c := r.peek(0)
+	switch c {
+	case '[':
+		return r.class()
+	case '\\':
+		n, ok := r.escape()
+		return chars.One(n), ok
+	case '.':
+		r.at++
+		return chars.Dot(), true
+	}
+	if !isPlain(c) {
+		return chars.Set{}, false
 	}
 	r.at++
-	return 1, true
+	return chars.One(int(c)), true
 }
 
 // bracket tries "(i:" ahead of "(", as i and the colon would be characters too.
-func (r *reader) bracket() (int, bool) {
+func (r *reader) bracket() (*Tree, bool) {
 	if r.depth >= api.MaxDepth {
-		return 0, false
+		return nil, false
 	}
 	if r.take("()") {
-		return 0, true
+		return &Tree{Kind: Empty}, true
 	}
-	if !r.take("(i:") {
+	outside := r.bothCases
+	if r.take("(i:") {
+		r.bothCases = true
+	} else {
 		r.at++
 	}
 	r.depth++
-	n, ok := r.either()
+	t, ok := r.either()
 	r.depth--
+	r.bothCases = outside
 	if !ok || !r.take(")") {
-		return 0, false
+		return nil, false
 	}
-	return n, true
+	return t, true
 }
 
 // name needs no look at the signs of the name, as defs hold none but names.
-func (r *reader) name() (int, bool) {
+func (r *reader) name() (*Tree, bool) {
 	for _, d := range r.defs {
 		if r.take("{" + d.Name + "}") {
-			return d.Chars, true
+			return d.Tree, true
 		}
 	}
-	return 0, false
-}
-
-// bounded may be taken of parts, ahead of adding or multiplying them: what was above the bound stays so, unless it stands no times, which is 0 of any number.
-func bounded(n int) int {
-	if n > api.MaxLeaves {
-		return api.MaxLeaves + 1
-	}
-	return n
+	return nil, false
 }
 
 // isPlain tells whether the byte is a character that stands for itself.

@@ -4,26 +4,34 @@ import (
 	"fmt"
 	"strings"
 	"testing"
+
+	"lexer/chars"
 )
 
 // defs: what the names in the tests' braces stand for.
-var defs = []Def{{"w", 2}, {"mode", 1}, {"big", 25}, {"zero", 0}, {"a1b2c3", 3}}
+var defs = []Def{{"w", of("ab")}, {"mode", of("m")}, {"big", of(strings.Repeat("x", 30))}, {"zero", of("()")}, {"a1b2c3", of("c{3}")}, {"cases", of("(i:a)b")}}
+
+// of: the tree of a text that has no names in braces.
+func of(text string) *Tree {
+	tree, _ := Read(text, nil)
+	return tree
+}
 
 // is: the text is an expression of so many characters.
 func is(t *testing.T, text string, want int) {
 	t.Helper()
-	n, ok := Chars(text, defs)
-	if !ok || n != want {
-		t.Errorf("%q: %d %v, want %d characters", text, n, ok, want)
+	tree, ok := Read(text, defs)
+	if !ok || tree.Chars != want {
+		t.Errorf("%q: %v %v, want %d characters", text, tree, ok, want)
 	}
 }
 
 // isNone: the text is no expression.
 func isNone(t *testing.T, text string) {
 	t.Helper()
-	n, ok := Chars(text, defs)
-	if ok || n != 0 {
-		t.Errorf("%q: %d %v, want none", text, n, ok)
+	tree, ok := Read(text, defs)
+	if ok || tree != nil {
+		t.Errorf("%q: %v %v, want none", text, tree, ok)
 	}
 }
 
@@ -193,7 +201,7 @@ func TestNamesInBraces(t *testing.T) {
 	for _, text := range []string{"{", "{}", "{w", "w}", "{x}", "{ww}", "{ w}", "{w }", "{W}", "{a1b2c}", "{a1b2c34}", "x{x}", "{{w}}", "{w,}", "{w,2}", "{(w)}", `{\w}`} {
 		isNone(t, text)
 	}
-	if _, ok := Chars("{w}", nil); ok {
+	if _, ok := Read("{w}", nil); ok {
 		t.Error("a name that no line gave is taken")
 	}
 }
@@ -256,4 +264,120 @@ func TestCountsAreBounded(t *testing.T) {
 	is(t, "{big}{big}{4}", 25)
 	is(t, "{big}{0}{w}", 2)
 	is(t, "{big}|{big}", 25)
+}
+
+const signs = "\x00\t\n !-.019:AZBYabyz[]^_`{|}~\x7f\u0080ſéÉЖж\u07ff\u0800\ud7ff\ue000\uffff\U00010000\U0010ffff\u212a"
+
+// sets: those of the characters of a tree, in their order.
+func sets(tree *Tree) []chars.Set {
+	if tree.Kind == One {
+		return []chars.Set{tree.Set}
+	}
+	var list []chars.Set
+	for _, p := range tree.Parts {
+		list = append(list, sets(p)...)
+	}
+	return list
+}
+
+// hold: each character of the expression is one of the signs that stand there.
+func hold(t *testing.T, text string, want ...string) {
+	t.Helper()
+	tree, ok := Read(text, defs)
+	if !ok {
+		t.Errorf("%q is none", text)
+		return
+	}
+	list := sets(tree)
+	if len(list) != len(want) {
+		t.Errorf("%q: %d characters, want %d", text, len(list), len(want))
+		return
+	}
+	for i, s := range list {
+		for _, c := range signs {
+			if s.Has(int(c)) != strings.ContainsRune(want[i], c) {
+				t.Errorf("%q: character %d: %q: %v", text, i, c, s.Has(int(c)))
+			}
+		}
+	}
+}
+
+// all: the signs that hold asks for, but for some.
+func all(but string) string {
+	s := ""
+	for _, c := range signs {
+		if !strings.ContainsRune(but, c) {
+			s += string(c)
+		}
+	}
+	return s
+}
+
+func TestWhatCharactersAre(t *testing.T) {
+	hold(t, `a`, "a")
+	hold(t, `a|b{2}|-`, "a", "b", "-")
+	hold(t, ` ^`, " ", "^")
+	hold(t, `.`, all("\n"))
+	hold(t, `\n\t\.\x41\x0a\xe9`, "\n", "\t", ".", "A", "\n", "é")
+	hold(t, `\u{0}\u{416}\u{d7ff}\u{e000}\u{ffff}\u{10000}\u{10ffff}\u{00007f}`, "\x00", "Ж", "\ud7ff", "\ue000", "\uffff", "\U00010000", "\U0010ffff", "\x7f")
+	hold(t, `[ab][^ab][a-b.]`, "ab", all("ab"), "ab.")
+	hold(t, `[0-1.][\t-\n]`, "01.", "\t\n")
+	hold(t, `[\u{7ff}-\u{e000}]`, "\u07ff\u0800\ud7ff\ue000\u212a")
+	hold(t, `[^\x00-\x7f]`, all("\x00\t\n !-.019:AZBYabyz[]^_`{|}~\x7f"))
+	hold(t, `[^\x00-\u{10ffff}]`, "")
+	hold(t, `[\x00-\u{10ffff}]`, all(""))
+	hold(t, `{w}0{mode}`, "a", "b", "0", "")
+}
+
+// In (i: .. ), at any depth of brackets within, but not in names in braces, and not behind it.
+func TestBothCases(t *testing.T) {
+	hold(t, `(i:a)a(i:B)B`, "aA", "a", "bB", "B")
+	hold(t, `(i:a(b(\x41)))b`, "aA", "bB", "aA", "b")
+	hold(t, `(i:(a)|(i:b)a)`, "aA", "bB", "aA")
+	hold(t, `((i:a)b)`, "aA", "b")
+	hold(t, `(i:{w}a{w})`, "a", "b", "aA", "a", "b")
+	hold(t, `{cases}(a{cases})`, "aA", "b", "a", "aA", "b")
+	hold(t, `(i:[a-b][^a][^A-B])`, "abAB", all("aA"), all("abAB"))
+	hold(t, `(i:[Z-a]\x5a[y\u{42}])`, "Zz[]^_`aA", "zZ", "yYbB")
+	hold(t, `(i:.\n[ -~]\.0{2})`, all("\n"), "\n", all("\x00\t\n\x7f\u0080ſéÉЖж\u07ff\u0800\ud7ff\ue000\uffff\U00010000\U0010ffff\u212a"), ".", "0")
+	hold(t, `(i:\xe9\u{416}[\x7f-\u{416}])`, "é", "Ж", "\x7f\u0080ſéÉЖ")
+}
+
+// Trees without characters are the empty word, however often it is asked for.
+func TestTheEmptyWord(t *testing.T) {
+	for _, text := range []string{"()", "()()", "()|()", "(()){4}", "a{0}", "(a*b{4}){0}", "{zero}{4,}", "{big}{0}|()", "()" + strings.Repeat("{4}", 100), "(i:())", "a{0,0}", "()*"} {
+		tree, ok := Read(text, defs)
+		if !ok || tree.Kind != Empty || tree.Chars != 0 || tree.Parts != nil {
+			t.Errorf("%q: %v %v", text, tree, ok)
+		}
+	}
+	for _, text := range []string{"a?", "a*", "()a", "a|()", "a{0,1}"} {
+		tree, ok := Read(text, defs)
+		if !ok || tree.Kind == Empty {
+			t.Errorf("%q: %v %v", text, tree, ok)
+		}
+	}
+}
+
+func TestTimes(t *testing.T) {
+	for _, c := range []struct {
+		text   string
+		want   Times
+		copies int
+	}{
+		{"*", Times{0, 0, true}, 1}, {"+", Times{1, 0, true}, 1}, {"?", Times{0, 1, false}, 1},
+		{"{1}", Times{1, 1, false}, 1}, {"{4}", Times{4, 4, false}, 4}, {"{0,}", Times{0, 0, true}, 1}, {"{1,}", Times{1, 0, true}, 1}, {"{3,}", Times{3, 0, true}, 3},
+		{"{0,1}", Times{0, 1, false}, 1}, {"{2,4}", Times{2, 4, false}, 4}, {"{0,4}", Times{0, 4, false}, 4},
+	} {
+		tree, ok := Read("a"+c.text, nil)
+		if !ok {
+			t.Fatalf("%s is none", c.text)
+		}
+		for tree.Kind != Again {
+			tree = tree.Parts[0]
+		}
+		if tree.Times != c.want || c.want.Copies() != c.copies || tree.Chars != c.copies {
+			t.Errorf("%s: %v, %d copies, %d characters", c.text, tree.Times, tree.Times.Copies(), tree.Chars)
+		}
+	}
 }

@@ -190,8 +190,9 @@ func same(t *testing.T, g grammar, list []Def, text string) {
 	g.text = text
 	want, fine := g.expr(0, 0)[len(text)]
 	want = min(want, 25)
-	if got, ok := Chars(text, list); got != want || ok != fine {
-		t.Fatalf("%q: %d %v, by the grammar %d %v", text, got, ok, want, fine)
+	tree, ok := Read(text, list)
+	if ok != fine || ok && tree.Chars != want {
+		t.Fatalf("%q: %v %v, by the grammar %d %v", text, tree, ok, want, fine)
 	}
 }
 
@@ -211,7 +212,7 @@ func each(letters string, length int, do func(string)) {
 }
 
 func theGrammar() (grammar, []Def) {
-	list := []Def{{"a", 2}, {"i", 0}}
+	list := []Def{{"a", of("ab")}, {"i", of("()")}}
 	return grammar{names: map[string]int{"a": 2, "i": 0}}, list
 }
 

@@ -1,26 +1,31 @@
 package expr
 
+import "lexer/chars"
+
 // class fails at the text's end too, as no member begins there.
-func (r *reader) class() bool {
+func (r *reader) class() (chars.Set, bool) {
 	r.at++
-	r.take("^")
-	ok := r.member()
-	for ok && !r.take("]") {
-		ok = r.member()
+	s := chars.Set{}
+	s.Others = r.take("^")
+	for {
+		m, ok := r.member()
+		if !ok {
+			return chars.Set{}, false
+		}
+		s.Ranges = append(s.Ranges, m)
+		if r.take("]") {
+			return s, true
+		}
 	}
-	return ok
 }
 
-func (r *reader) member() bool {
+func (r *reader) member() (chars.Range, bool) {
 	first, ok := r.sign()
-	if !ok {
-		return false
-	}
-	if !r.take("-") {
-		return true
+	if !ok || !r.take("-") {
+		return chars.Range{Low: first, High: first}, ok
 	}
 	last, fine := r.sign()
-	return fine && first <= last
+	return chars.Range{Low: first, High: last}, fine && first <= last
 }
 
 // sign tells the character that a member begins or ends with.
@@ -55,7 +60,7 @@ func (r *reader) escape() (int, bool) {
 	if r.take("u{") {
 		n, digits := r.hex(6)
 		closed := r.take("}")
-		return n, closed && digits > 0 && isCharacter(n)
+		return n, closed && digits > 0 && chars.Is(n)
 	}
 	c := r.peek(0)
 	if c < 33 || c > 126 || isDigit(c) || isLetter(c) {
@@ -92,9 +97,4 @@ func hexDigit(c byte) int {
 
 func isLetter(c byte) bool {
 	return c >= 'a' && c <= 'z' || c >= 'A' && c <= 'Z'
-}
-
-// isCharacter tells whether the number, which is not negative, is that of a Unicode scalar value.
-func isCharacter(n int) bool {
-	return n < 0xd800 || n > 0xdfff && n <= 0x10ffff
 }

@@ -208,4 +208,7 @@ func check(t *testing.T, text string) {
 	if (x == nil) != (e != api.OK) || (r.Line > 0) != (e == api.ErrLine) || r.Line < 0 || r.Line > number {
 		t.Fatalf("%q: %d line %d, a lexer: %v", text, e, r.Line, x != nil)
 	}
+	if (r.Modes == nil) != (e != api.OK) || (r.Shadowed == nil) != (e != api.OK) || len(r.Shadowed) != len(r.Empty) {
+		t.Fatalf("%q: %d, the report is %v", text, e, r)
+	}
 }

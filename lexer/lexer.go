@@ -3,7 +3,11 @@ package lexer
 
 import (
 	"lexer/api"
+	"lexer/places"
 	"lexer/spec"
+	"lexer/states"
+	"lexer/told"
+	"lexer/words"
 )
 
 // Lexer is what a specification gives.
@@ -17,11 +21,34 @@ func Generate(text string, l api.Limits) (*Lexer, api.Report, api.Errno) {
 	if l.States < 1 || l.States > api.MaxStates || l.Hold < 1 || l.Hold > api.MaxHold {
 		return nil, api.Report{}, api.ErrLimit
 	}
-	line, e := spec.Check(text)
+	s, line, e := spec.Read(text)
 	if e != api.OK {
 		return nil, api.Report{Line: line}, e
 	}
-	return &Lexer{}, api.Report{}, api.OK
+	modes, ok := modesOf(s, l.States)
+	if !ok {
+		return nil, api.Report{}, api.ErrStates
+	}
+	return &Lexer{}, told.Report(modes, l.Force), api.OK
+}
+
+// modesOf makes the states of all modes, unless there are more than so many in all.
+func modesOf(s spec.Spec, most int) ([]told.Mode, bool) {
+	var modes []told.Mode
+	for _, m := range s.Modes {
+		n := places.Lay(m.Rules)
+		kinds, few := words.Sort(n, most)
+		if !few {
+			return nil, false
+		}
+		table, fits := states.Make(kinds, most)
+		if !fits {
+			return nil, false
+		}
+		most -= len(table.Next)
+		modes = append(modes, told.Mode{Table: table, Empty: n.Empty})
+	}
+	return modes, true
 }
 
 // Scan tells a whole text's events (P8).

@@ -38,21 +38,21 @@ func (s *sheet) readMode(name string) bool {
 	if len(s.modes) >= api.MaxModes || s.hasMode(name) || !isName(name) {
 		return false
 	}
-	s.modes = append(s.modes, mode{name: name})
+	s.modes = append(s.modes, Mode{Name: name})
 	return true
 }
 
-// readLet counts the characters ahead of laying the name down, as it does not stand in its own expression.
+// readLet reads the expression ahead of laying the name down, as it does not stand in its own expression.
 func (s *sheet) readLet(words string) bool {
 	name, body, parted := cut(words, ' ')
 	if !parted || len(s.defs) >= api.MaxDefs || s.hasDef(name) || !isName(name) {
 		return false
 	}
-	chars, ok := expr.Chars(body, s.defs)
+	tree, ok := expr.Read(body, s.defs)
 	if !ok {
 		return false
 	}
-	s.defs = append(s.defs, expr.Def{Name: name, Chars: chars})
+	s.defs = append(s.defs, expr.Def{Name: name, Tree: tree})
 	return true
 }
 
@@ -63,7 +63,7 @@ func (s *sheet) readRule(name string, words string) bool {
 		return false
 	}
 	pushed, known := pushedBy(act)
-	chars, ok := expr.Chars(body, s.defs)
+	tree, ok := expr.Read(body, s.defs)
 	if !known || !ok {
 		return false
 	}
@@ -71,8 +71,7 @@ func (s *sheet) readRule(name string, words string) bool {
 		s.pushed = append(s.pushed, pushed)
 	}
 	s.rules++
-	s.modes[top].rules++
-	s.modes[top].chars += chars
+	s.modes[top].Rules = append(s.modes[top].Rules, tree)
 	return true
 }
 

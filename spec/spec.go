@@ -1,4 +1,4 @@
-// Package spec: which texts are specifications (P3 and P4).
+// Package spec: which texts are specifications, and what they say (P3 and P4).
 package spec
 
 import (
@@ -6,42 +6,47 @@ import (
 	"lexer/expr"
 )
 
-// Check tells the first error of a text, but for those that hang on limits; of ErrLine the number of the line too, which is 0 else.
-func Check(text string) (int, api.Errno) {
+// Spec: the modes of a specification, in their order. As the rules of a mode stand together, those of all modes are in their order, too.
+type Spec struct {
+	Modes []Mode
+}
+
+// Mode: its name, and the expressions of its rules.
+type Mode struct {
+	Name  string
+	Rules []*expr.Tree
+}
+
+// Read tells what a text says, or its first error, but for those that hang on limits; of ErrLine the number of the line too, which is 0 else.
+func Read(text string) (Spec, int, api.Errno) {
 	if len(text) > api.MaxText {
-		return 0, api.ErrText
+		return Spec{}, 0, api.ErrText
 	}
 	s := &sheet{}
 	line := s.readLines(text)
 	if line > 0 {
-		return line, api.ErrLine
+		return Spec{}, line, api.ErrLine
 	}
 	if !s.modesStand() {
-		return 0, api.ErrModes
+		return Spec{}, 0, api.ErrModes
 	}
 	if !s.charsFit() {
-		return 0, api.ErrLeaves
+		return Spec{}, 0, api.ErrLeaves
 	}
-	return 0, api.OK
+	return Spec{Modes: s.modes}, 0, api.OK
 }
 
 // sheet: what the lines so far have said.
 type sheet struct {
-	modes  []mode
+	modes  []Mode
 	defs   []expr.Def
 	pushed []string // modes that rules push, which may stand further below
 	rules  int
 }
 
-// mode: how many rules it has, and how many characters these have in all.
-type mode struct {
-	name         string
-	rules, chars int
-}
-
 func (s *sheet) modesStand() bool {
 	for _, m := range s.modes {
-		if m.rules == 0 {
+		if len(m.Rules) == 0 {
 			return false
 		}
 	}
@@ -55,7 +60,11 @@ func (s *sheet) modesStand() bool {
 
 func (s *sheet) charsFit() bool {
 	for _, m := range s.modes {
-		if m.chars > api.MaxLeaves {
+		chars := 0
+		for _, t := range m.Rules {
+			chars += t.Chars
+		}
+		if chars > api.MaxLeaves {
 			return false
 		}
 	}
@@ -64,7 +73,7 @@ func (s *sheet) charsFit() bool {
 
 func (s *sheet) hasMode(name string) bool {
 	for _, m := range s.modes {
-		if m.name == name {
+		if m.Name == name {
 			return true
 		}
 	}

@@ -15,9 +15,9 @@ func lines(l ...string) string {
 // answers: the text has this error, or none; line is 0 but of ErrLine.
 func answers(t *testing.T, text string, want api.Errno, line int) {
 	t.Helper()
-	got, e := Check(text)
-	if e != want || got != line {
-		t.Errorf("%q: %d line %d, want %d line %d", text, e, got, want, line)
+	s, got, e := Read(text)
+	if e != want || got != line || (s.Modes == nil) != (e != api.OK) {
+		t.Errorf("%q: %d line %d, %d modes, want %d line %d", text, e, got, len(s.Modes), want, line)
 	}
 }
 
@@ -218,12 +218,35 @@ func TestAnyByteAnywhere(t *testing.T) {
 	text := lines("let w a{2}", "mode m", "x >m {w}(i:[^a-b])\\x41")
 	for i := 0; i < len(text); i++ {
 		for c := 0; c < 256; c++ {
-			line, e := Check(text[:i] + string([]byte{byte(c)}) + text[i+1:])
+			_, line, e := Read(text[:i] + string([]byte{byte(c)}) + text[i+1:])
 			if (e == api.ErrLine) != (line > 0) || line > 5 {
 				t.Fatalf("byte %d at %d: %d line %d", c, i, e, line)
 			}
 			if (c < 32 || c > 126) && c != '\n' && e != api.ErrLine {
 				t.Fatalf("byte %d at %d: %d", c, i, e)
+			}
+		}
+	}
+}
+
+// What is read: the modes and the rules of each, in their order.
+func TestWhatIsRead(t *testing.T) {
+	s, _, e := Read(lines("let w ab", "mode m", "a >o {w}{w}", "b - c", "mode n", "let v {w}{3}", "c < {v}", "mode o", "d . ()", "e . .*", "f . a+b*"))
+	if e != api.OK || len(s.Modes) != 3 {
+		t.Fatalf("%d, %v", e, s)
+	}
+	want := []struct {
+		name  string
+		chars []int
+	}{{"m", []int{4, 1}}, {"n", []int{6}}, {"o", []int{0, 1, 2}}}
+	for i, w := range want {
+		m := s.Modes[i]
+		if m.Name != w.name || len(m.Rules) != len(w.chars) {
+			t.Fatalf("mode %d: %v", i, m)
+		}
+		for k, n := range w.chars {
+			if m.Rules[k].Chars != n {
+				t.Errorf("mode %s, rule %d: %d characters", m.Name, k, m.Rules[k].Chars)
 			}
 		}
 	}
