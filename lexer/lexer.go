@@ -4,17 +4,23 @@ package lexer
 import (
 	"lexer/api"
 	"lexer/places"
+	"lexer/run"
 	"lexer/spec"
 	"lexer/states"
+	"lexer/tables"
 	"lexer/told"
 	"lexer/words"
 )
 
 // Lexer is what a specification gives.
-type Lexer struct{}
+type Lexer struct {
+	tables *tables.Tables
+}
 
 // Scanner takes a text in pieces.
-type Scanner struct{}
+type Scanner struct {
+	run run.Run
+}
 
 // Generate makes the lexer of a specification, and tells of it (P3 to P7).
 func Generate(text string, l api.Limits) (*Lexer, api.Report, api.Errno) {
@@ -29,12 +35,17 @@ func Generate(text string, l api.Limits) (*Lexer, api.Report, api.Errno) {
 	if !ok {
 		return nil, api.Report{}, api.ErrStates
 	}
-	return &Lexer{}, told.Report(modes, l.Force), api.OK
+	t := tables.Make(modes, s.Acts, s.Pushed, l.Hold)
+	r := told.Report(modes, t.Count, l.Force)
+	if r.Stream {
+		t.MakeStream(r.Ahead)
+	}
+	return &Lexer{tables: t}, r, api.OK
 }
 
 // modesOf makes the states of all modes, unless there are more than so many in all.
-func modesOf(s spec.Spec, most int) ([]told.Mode, bool) {
-	var modes []told.Mode
+func modesOf(s spec.Spec, most int) ([]states.Mode, bool) {
+	var modes []states.Mode
 	for _, m := range s.Modes {
 		n := places.Lay(m.Rules)
 		kinds, few := words.Sort(n, most)
@@ -46,22 +57,42 @@ func modesOf(s spec.Spec, most int) ([]told.Mode, bool) {
 			return nil, false
 		}
 		most -= len(table.Next)
-		modes = append(modes, told.Mode{Table: table, Empty: n.Empty})
+		modes = append(modes, states.Mode{Table: table, Empty: n.Empty})
 	}
 	return modes, true
 }
 
 // Scan tells a whole text's events (P8).
-func (x *Lexer) Scan(w string) []api.Event { return nil }
+func (x *Lexer) Scan(w string) []api.Event {
+	s := x.Begin()
+	list := s.Push(w)
+	rest := s.Close()
+	return append(list, rest...)
+}
 
-// Begin makes a scanner at the beginning (P9).
-func (x *Lexer) Begin() *Scanner { return &Scanner{} }
+// Begin makes a scanner at the beginning (P9). One of no lexer tells nothing.
+func (x *Lexer) Begin() *Scanner {
+	if x == nil || x.tables == nil {
+		return &Scanner{}
+	}
+	return &Scanner{run: run.Begin(x.tables)}
+}
 
 // Push takes more bytes, and tells what is known by them (P9).
-func (s *Scanner) Push(b string) []api.Event { return nil }
+func (s *Scanner) Push(b string) []api.Event {
+	if s == nil {
+		return nil
+	}
+	return s.run.Push(b)
+}
 
 // Close: there are no more bytes: the rest (P9).
-func (s *Scanner) Close() []api.Event { return nil }
+func (s *Scanner) Close() []api.Event {
+	if s == nil {
+		return nil
+	}
+	return s.run.Close()
+}
 
 // Bytes tells the lexer as bytes (P10).
 func (x *Lexer) Bytes() string { return "" }

@@ -274,8 +274,8 @@ func (a *nfa) closed(list []int) []int {
 	return out
 }
 
-// run tells the machine of the rules; false if it grows too great for the oracle.
-func run(rules []part) (*machine, bool) {
+// machineOf tells the machine of the rules; false if it grows too great for the oracle.
+func machineOf(rules []part) (*machine, bool) {
 	a := &nfa{}
 	start := a.state()
 	var ends []int
@@ -395,8 +395,8 @@ func (m *machine) least() *machine {
 	return out
 }
 
-// distance: the longest way from a token to the next one; endless is told as -1.
-func (m *machine) distance() int {
+// live tells by state whether a token ends there or further on.
+func (m *machine) live() []bool {
 	live := make([]bool, len(m.rule))
 	for range m.rule {
 		for s := range m.rule {
@@ -406,6 +406,12 @@ func (m *machine) distance() int {
 			}
 		}
 	}
+	return live
+}
+
+// distance: the longest way from a token to the next one; endless is told as -1.
+func (m *machine) distance() int {
+	live := m.live()
 	const endless = 1 << 30
 	way := make([]int, len(m.rule))
 	var from func(s int) int
@@ -441,17 +447,25 @@ func (m *machine) distance() int {
 	return far
 }
 
+// machines tells those of all modes, as small as they can be; false if one is too great for the oracle.
+func machines(modes [][]part) ([]*machine, bool) {
+	var list []*machine
+	for _, rules := range modes {
+		m, ok := machineOf(rules)
+		if !ok {
+			return nil, false
+		}
+		list = append(list, m.least())
+	}
+	return list, true
+}
+
 // expected: the report that P6 and P7 ask for, and how many states all modes have.
-func expected(modes [][]part, force bool) (api.Report, int, bool) {
+func expected(list []*machine, force bool) (api.Report, int) {
 	r := api.Report{}
 	states := 0
 	columns := make([]string, 256)
-	for _, rules := range modes {
-		m, ok := run(rules)
-		if !ok {
-			return r, 0, false
-		}
-		m = m.least()
+	for _, m := range list {
 		states += len(m.rule)
 		far := m.distance()
 		r.Modes = append(r.Modes, api.Mode{States: len(m.rule), Distance: far})
@@ -460,7 +474,7 @@ func expected(modes [][]part, force bool) (api.Report, int, bool) {
 		} else {
 			r.Ahead = max(r.Ahead, far)
 		}
-		for i := range rules {
+		for i := range m.null {
 			shadowed := true
 			for _, rule := range m.rule {
 				shadowed = shadowed && rule != i
@@ -483,11 +497,30 @@ func expected(modes [][]part, force bool) (api.Report, int, bool) {
 		rows *= len(kinds) + 1
 	}
 	r.Stream = r.Ahead >= 0 && rows <= 3000 && !force
-	return r, states, true
+	return r, states
+}
+
+// deed: what a rule does, and the mode that it pushes.
+type deed struct {
+	what, mode int
+}
+
+// deed makes one by chance, and tells how it is written.
+func (m *maker) deed(modes int) (deed, string) {
+	switch m.Intn(6) {
+	case 0:
+		return deed{api.Skip, 0}, "-"
+	case 1, 2:
+		n := m.Intn(modes)
+		return deed{api.Push, n}, fmt.Sprint(">m", n)
+	case 3:
+		return deed{api.Pop, 0}, "<"
+	}
+	return deed{api.Emit, 0}, "."
 }
 
 // spec makes a specification by chance, of modes of few enough characters.
-func (m *maker) spec() (string, [][]part) {
+func (m *maker) spec() (string, [][]part, []deed) {
 	m.pool = nil
 	for i := 1 + m.Intn(4); i > 0; i-- {
 		m.pool = append(m.pool, m.Intn(1+m.Intn(len(leaves))))
@@ -502,17 +535,21 @@ func (m *maker) spec() (string, [][]part) {
 		m.defs = append(m.defs, p)
 	}
 	var modes [][]part
-	for i := 1 + m.Intn(3)*m.Intn(2); i > 0; i-- {
+	var deeds []deed
+	count := 1 + m.Intn(3)*m.Intn(2)
+	for i := 0; i < count; i++ {
 		text += "mode m" + fmt.Sprint(i) + "\n"
 		var rules []part
 		for k := 1 + m.Intn(3)*m.Intn(2); k > 0; k-- {
 			p := m.either(2, false)
+			d, act := m.deed(count)
 			rules = append(rules, p)
-			text += "r . " + p.text + "\n"
+			deeds = append(deeds, d)
+			text += "r " + act + " " + p.text + "\n"
 		}
 		modes = append(modes, rules)
 	}
-	return text, modes
+	return text, modes, deeds
 }
 
 // fits: the text has no error but for ErrStates.
@@ -533,10 +570,11 @@ func fits(text string, modes [][]part) bool {
 
 // sameAsExpected tells that the report of a text is the expected one, and which limits suffice for it.
 func sameAsExpected(t *testing.T, text string, modes [][]part, force bool) bool {
-	want, states, ok := expected(modes, force)
+	list, ok := machines(modes)
 	if !ok {
 		return false
 	}
+	want, states := expected(list, force)
 	limits := api.Limits{States: 200, Hold: 64, Force: force}
 	if states > 200 {
 		answers(t, text, limits, api.ErrStates, 0)
@@ -547,11 +585,46 @@ func sameAsExpected(t *testing.T, text string, modes [][]part, force bool) bool 
 	if e != api.OK || plain(got) != plain(want) {
 		t.Fatalf("%q: %d %s, want %s", text, e, plain(got), plain(want))
 	}
+	for i, m := range list {
+		if !m.isShown(got.Modes[i]) {
+			t.Fatalf("%q: %+v", text, got.Modes[i])
+		}
+	}
 	if states > 1 {
 		limits.States = states - 1
 		answers(t, text, limits, api.ErrStates, 0)
 	}
 	return true
+}
+
+// isPair: both are tokens, the first begins the second, and no word between is a token.
+func (m *machine) isPair(from, to string) bool {
+	at := 0
+	ends := []int{0}
+	for i := 0; i < len(to); i++ {
+		at = m.next[at][to[i]]
+		if m.rule[at] >= 0 {
+			ends = append(ends, i+1)
+		}
+	}
+	n := len(ends)
+	return from != "" && strings.HasPrefix(to, from) && n > 2 && ends[n-1] == len(to) && ends[n-2] == len(from)
+}
+
+// isShown: the words show the distance, and those that are not wanted are empty (P6).
+func (m *machine) isShown(r api.Mode) bool {
+	if r.Distance == 0 {
+		return r.From+r.To+r.X+r.Y+r.Z == ""
+	}
+	if r.Distance > 0 {
+		return r.X+r.Y+r.Z == "" && len(r.To) == len(r.From)+r.Distance && m.isPair(r.From, r.To)
+	}
+	for n := 0; n < 6; n++ {
+		if !m.isPair(r.From, r.From+r.X+strings.Repeat(r.Y, n)+r.Z) {
+			return false
+		}
+	}
+	return r.To == "" && r.Y != ""
 }
 
 // plain: a report without the words that show distances, which are free.
@@ -569,7 +642,7 @@ func TestReportsAgainstTheOracle(t *testing.T) {
 	m := &maker{Rand: rand.New(rand.NewSource(7))}
 	done := 0
 	for i := 0; i < 3000; i++ {
-		text, modes := m.spec()
+		text, modes, _ := m.spec()
 		if fits(text, modes) && sameAsExpected(t, text, modes, i%16 == 0) {
 			done++
 		}

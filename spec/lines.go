@@ -35,7 +35,7 @@ func (s *sheet) readLine(line string) bool {
 }
 
 func (s *sheet) readMode(name string) bool {
-	if len(s.modes) >= api.MaxModes || s.hasMode(name) || !isName(name) {
+	if len(s.modes) >= api.MaxModes || s.modeOf(name) >= 0 || !isName(name) {
 		return false
 	}
 	s.modes = append(s.modes, Mode{Name: name})
@@ -59,34 +59,36 @@ func (s *sheet) readLet(words string) bool {
 func (s *sheet) readRule(name string, words string) bool {
 	act, body, parted := cut(words, ' ')
 	top := len(s.modes) - 1
-	if !parted || top < 0 || s.rules >= api.MaxRules || !isName(name) {
+	if !parted || top < 0 || len(s.acts) >= api.MaxRules || !isName(name) {
 		return false
 	}
-	pushed, known := pushedBy(act)
+	what, pushed, known := readAct(act)
 	tree, ok := expr.Read(body, s.defs)
 	if !known || !ok {
 		return false
 	}
-	if pushed != "" {
-		s.pushed = append(s.pushed, pushed)
-	}
-	s.rules++
+	s.acts = append(s.acts, what)
+	s.pushed = append(s.pushed, pushed)
 	s.modes[top].Rules = append(s.modes[top].Rules, tree)
 	return true
 }
 
-// pushedBy tells the name of the mode that an action pushes, which is empty if it pushes none, and whether it is an action.
-func pushedBy(act string) (string, bool) {
+// readAct tells what an action does, the name of the mode that it pushes, which is empty if it pushes none, and whether it is an action.
+func readAct(act string) (int, string, bool) {
 	switch act {
 	case "":
-		return "", false
-	case ".", "-", "<":
-		return "", true
+		return 0, "", false
+	case ".":
+		return api.Emit, "", true
+	case "-":
+		return api.Skip, "", true
+	case "<":
+		return api.Pop, "", true
 	}
 	if act[0] != '>' || !isName(act[1:]) {
-		return "", false
+		return 0, "", false
 	}
-	return act[1:], true
+	return api.Push, act[1:], true
 }
 
 // cut parts a text at the first such byte, and tells whether there is one.

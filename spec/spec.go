@@ -6,9 +6,11 @@ import (
 	"lexer/expr"
 )
 
-// Spec: the modes of a specification, in their order. As the rules of a mode stand together, those of all modes are in their order, too.
+// Spec: the modes of a specification, in their order, and what its rules do. As the rules of a mode stand together, those of all modes are in their order, too.
 type Spec struct {
-	Modes []Mode
+	Modes  []Mode
+	Acts   []int // by rule: what it does, as api has it
+	Pushed []int // by rule: the number of the mode that it pushes; 0, if it pushes none
 }
 
 // Mode: its name, and the expressions of its rules.
@@ -27,31 +29,44 @@ func Read(text string) (Spec, int, api.Errno) {
 	if line > 0 {
 		return Spec{}, line, api.ErrLine
 	}
-	if !s.modesStand() {
+	pushed, there := s.pushedModes()
+	if !there || !s.haveRules() {
 		return Spec{}, 0, api.ErrModes
 	}
 	if !s.charsFit() {
 		return Spec{}, 0, api.ErrLeaves
 	}
-	return Spec{Modes: s.modes}, 0, api.OK
+	return Spec{Modes: s.modes, Acts: s.acts, Pushed: pushed}, 0, api.OK
 }
 
 // sheet: what the lines so far have said.
 type sheet struct {
 	modes  []Mode
 	defs   []expr.Def
-	pushed []string // modes that rules push, which may stand further below
-	rules  int
+	acts   []int    // by rule
+	pushed []string // by rule: the name of the mode that it pushes, which may stand further below; empty, if it pushes none
 }
 
-func (s *sheet) modesStand() bool {
+// pushedModes tells by rule the number of the mode that it pushes, and whether all those modes are there.
+func (s *sheet) pushedModes() ([]int, bool) {
+	var list []int
+	for _, name := range s.pushed {
+		n := 0
+		if name != "" {
+			n = s.modeOf(name)
+		}
+		if n < 0 {
+			return nil, false
+		}
+		list = append(list, n)
+	}
+	return list, true
+}
+
+// haveRules: there is a mode, and each one has a rule.
+func (s *sheet) haveRules() bool {
 	for _, m := range s.modes {
 		if len(m.Rules) == 0 {
-			return false
-		}
-	}
-	for _, name := range s.pushed {
-		if !s.hasMode(name) {
 			return false
 		}
 	}
@@ -71,13 +86,14 @@ func (s *sheet) charsFit() bool {
 	return true
 }
 
-func (s *sheet) hasMode(name string) bool {
-	for _, m := range s.modes {
+// modeOf tells the number of the mode of that name, or -1, if there is none.
+func (s *sheet) modeOf(name string) int {
+	for i, m := range s.modes {
 		if m.Name == name {
-			return true
+			return i
 		}
 	}
-	return false
+	return -1
 }
 
 func (s *sheet) hasDef(name string) bool {

@@ -1,6 +1,7 @@
 package spec
 
 import (
+	"fmt"
 	"strings"
 	"testing"
 
@@ -249,5 +250,16 @@ func TestWhatIsRead(t *testing.T) {
 				t.Errorf("mode %s, rule %d: %d characters", m.Name, k, m.Rules[k].Chars)
 			}
 		}
+	}
+	if got := fmt.Sprint(s.Acts, s.Pushed); got != "[2 1 3 0 0 0] [2 0 0 0 0 0]" {
+		t.Error(got)
+	}
+}
+
+// What rules do: modes may be pushed that stand above, below, or around.
+func TestActs(t *testing.T) {
+	s, _, e := Read(lines("mode a", "r >a a", "r >b b", "r >c c", "r < d", "mode b", "r >a a", "r - b", "mode c", "r >c c", "r . d"))
+	if got := fmt.Sprint(e, s.Acts, s.Pushed); got != "0 [2 2 2 3 2 1 2 0] [0 1 2 0 0 0 2 0]" {
+		t.Error(got)
 	}
 }

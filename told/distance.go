@@ -2,18 +2,20 @@ package told
 
 import "lexer/states"
 
-// distance goes on byte by byte, from all tokens at once, through the states in which no token ends, as long as there are such states.
-// From each of them a token still comes, as Dead is left out; and who has gone through more of them than there are has been in one of them twice, and may go round again.
-func distance(t states.Table) int {
+// frontsOf goes on byte by byte, from all tokens at once, through the states in which no token ends, and tells from which states each byte was taken: there are as many such steps as the distance has bytes. If there is no greatest distance, it tells that they do not end.
+// From each of these states a token still comes, as Dead is left out; and who has gone through more of them than there are has been in one of them twice, and may go round again.
+func frontsOf(t states.Table) ([][]bool, bool) {
+	var fronts [][]bool
 	front := tokens(t)
 	for far := 0; far <= len(t.Next); far++ {
 		next := reached(t, front)
-		if !hasAny(next) {
-			return far
+		if first(next) < 0 {
+			return fronts, true
 		}
-		front = withoutTokens(t, next)
+		fronts = append(fronts, front)
+		front = without(next, tokens(t))
 	}
-	return -1
+	return nil, false
 }
 
 // tokens tells by state whether a token ends there.
@@ -39,19 +41,20 @@ func reached(t states.Table, from []bool) []bool {
 	return list
 }
 
-func withoutTokens(t states.Table, from []bool) []bool {
+func without(all []bool, some []bool) []bool {
 	var list []bool
-	for s, rule := range t.Rules {
-		list = append(list, from[s] && rule == states.None)
+	for s, is := range all {
+		list = append(list, is && !some[s])
 	}
 	return list
 }
 
-func hasAny(list []bool) bool {
-	for _, is := range list {
+// first tells the first state that is one of those, or -1.
+func first(list []bool) int {
+	for s, is := range list {
 		if is {
-			return true
+			return s
 		}
 	}
-	return false
+	return -1
 }

@@ -6,26 +6,31 @@ import (
 	"lexer/states"
 )
 
-// Mode: its states, and by rule whether it denotes the empty word.
-type Mode struct {
-	Table states.Table
-	Empty []bool
-}
-
-// Report tells of the modes; the rules of all are told in their order.
-func Report(modes []Mode, force bool) api.Report {
+// Report tells of the modes, and of the kinds of bytes that they have; the rules of all are told in their order.
+func Report(modes []states.Mode, kinds int, force bool) api.Report {
 	r := api.Report{}
 	for _, m := range modes {
-		far := distance(m.Table)
-		r.Modes = append(r.Modes, api.Mode{States: len(m.Table.Next), Distance: far})
-		r.Ahead = further(r.Ahead, far)
+		mode := tellMode(m.Table)
+		r.Modes = append(r.Modes, mode)
+		r.Ahead = further(r.Ahead, mode.Distance)
 		for rule, empty := range m.Empty {
 			r.Shadowed = append(r.Shadowed, !hasRule(m.Table, rule))
 			r.Empty = append(r.Empty, empty)
 		}
 	}
-	r.Stream = !force && isStream(r.Ahead, byteKinds(modes))
+	r.Stream = !force && isStream(r.Ahead, kinds)
 	return r
+}
+
+// tellMode tells the words that show its distance, too.
+func tellMode(t states.Table) api.Mode {
+	fronts, ended := frontsOf(t)
+	if !ended {
+		from, x, y, z := roundabout(t)
+		return api.Mode{States: len(t.Next), Distance: -1, From: from, X: x, Y: y, Z: z}
+	}
+	from, to := pair(t, fronts)
+	return api.Mode{States: len(t.Next), Distance: len(fronts), From: from, To: to}
 }
 
 // further tells the greater of two distances; -1 is above all others.
@@ -55,34 +60,4 @@ func isStream(ahead int, kinds int) bool {
 		rows *= kinds + 1
 	}
 	return ahead >= 0 && rows <= api.MaxExt
-}
-
-func byteKinds(modes []Mode) int {
-	n := 0
-	for b := 0; b < 256; b++ {
-		if !isLikeOneAhead(modes, b) {
-			n++
-		}
-	}
-	return n
-}
-
-func isLikeOneAhead(modes []Mode, b int) bool {
-	for a := 0; a < b; a++ {
-		if leadAlike(modes, a, b) {
-			return true
-		}
-	}
-	return false
-}
-
-func leadAlike(modes []Mode, a int, b int) bool {
-	for _, m := range modes {
-		for _, row := range m.Table.Next {
-			if row[a] != row[b] {
-				return false
-			}
-		}
-	}
-	return true
 }

@@ -2,6 +2,7 @@ package told
 
 import (
 	"fmt"
+	"strings"
 	"testing"
 
 	"lexer/states"
@@ -57,9 +58,10 @@ func TestDistance(t *testing.T) {
 		{table(4, one, "1 a 2", "2 a 1"), 2},
 		{table(4, one, "1 a 2", "2 a 1", "1 b 1"), -1},
 	} {
-		if got := distance(c.table); got != c.want {
-			t.Errorf("table %d: %d, want %d", i, got, c.want)
+		if got := tellMode(c.table); got.Distance != c.want {
+			t.Errorf("table %d: %d, want %d", i, got.Distance, c.want)
 		}
+		showsDistance(t, c.table)
 	}
 }
 
@@ -73,15 +75,79 @@ func TestLongDistances(t *testing.T) {
 			at = s
 		}
 		way.Next[at]['a'] = 3
-		if got := distance(way); got != size-3 {
-			t.Errorf("%d states: %d", size, got)
+		if got := tellMode(way); got.Distance != size-3 {
+			t.Errorf("%d states: %d", size, got.Distance)
 		}
+		showsDistance(t, way)
 		if size > 4 {
 			way.Next[at]['b'] = at
-			if got := distance(way); got != -1 {
-				t.Errorf("%d states, round the last: %d", size, got)
+			if got := tellMode(way); got.Distance != -1 {
+				t.Errorf("%d states, round the last: %d", size, got.Distance)
+			}
+			showsDistance(t, way)
+		}
+	}
+}
+
+// tokensAt: how long the words are that begin this one and have a rule.
+func tokensAt(t states.Table, word string) []int {
+	var list []int
+	at := t.Start
+	for i := 0; i < len(word); i++ {
+		at = t.Next[at][word[i]]
+		if t.Rules[at] != states.None {
+			list = append(list, i+1)
+		}
+	}
+	return list
+}
+
+// isPair: both are tokens, the first begins the second, and no word between is a token.
+func isPair(t states.Table, from string, to string) bool {
+	list := tokensAt(t, to)
+	n := len(list)
+	return strings.HasPrefix(to, from) && n >= 2 && list[n-1] == len(to) && list[n-2] == len(from)
+}
+
+// showsDistance: the words show the distance, and those that are not wanted are empty.
+func showsDistance(t *testing.T, table states.Table) {
+	t.Helper()
+	m := tellMode(table)
+	switch {
+	case m.Distance == 0:
+		if m.From+m.To+m.X+m.Y+m.Z != "" {
+			t.Errorf("no distance: %+v", m)
+		}
+	case m.Distance > 0:
+		if m.X+m.Y+m.Z != "" || len(m.To)-len(m.From) != m.Distance || !isPair(table, m.From, m.To) {
+			t.Errorf("%+v", m)
+		}
+	default:
+		if m.To != "" || m.Y == "" {
+			t.Errorf("%+v", m)
+		}
+		for n := 0; n < 5; n++ {
+			if to := m.From + m.X + strings.Repeat(m.Y, n) + m.Z; !isPair(table, m.From, to) {
+				t.Errorf("%+v: %q", m, to)
 			}
 		}
+	}
+}
+
+// The round way may lie behind another token than the first one, and be reached by other ways than the shortest.
+func TestRoundabouts(t *testing.T) {
+	two := map[int]int{2: 0, 3: 1}
+	for _, way := range []states.Table{
+		table(6, two, "1 a 2", "2 a 3", "3 a 4", "4 a 5", "5 a 4", "5 b 3"),
+		table(8, two, "1 a 2", "2 a 4", "4 b 3", "4 a 5", "5 a 6", "6 a 7", "7 a 5", "7 z 2"),
+		table(7, two, "1 z 4", "4 z 1", "1 a 2", "2 a 5", "5 a 6", "6 c 5", "6 b 3"),
+		table(7, two, "1 a 3", "3 b 2", "2 a 4", "4 b 5", "5 c 6", "6 d 4", "5 e 3"),
+		table(7, two, "1 a 4", "4 a 4", "4 b 3", "3 b 2", "2 a 1"),
+	} {
+		if m := tellMode(way); m.Distance != -1 {
+			t.Errorf("%+v", m)
+		}
+		showsDistance(t, way)
 	}
 }
 
@@ -108,42 +174,19 @@ func TestIsStream(t *testing.T) {
 	}
 }
 
-func TestByteKinds(t *testing.T) {
-	one := Mode{Table: table(3, map[int]int{2: 0}, "1 a 2", "1 b 2")}
-	two := Mode{Table: table(3, map[int]int{2: 0}, "1 b 2", "1 c 2")}
-	deep := Mode{Table: table(4, map[int]int{2: 0}, "1 a 2", "1 b 2", "2 a 3", "3 z 2")}
-	for _, c := range []struct {
-		modes []Mode
-		want  int
-	}{
-		{[]Mode{{Table: table(1, nil)}}, 1}, {[]Mode{one}, 2}, {[]Mode{one, one}, 2}, {[]Mode{one, two}, 4}, {[]Mode{two, one}, 4}, {[]Mode{deep}, 4}, {[]Mode{one, {Table: table(1, nil)}, two, deep}, 5},
-	} {
-		if got := byteKinds(c.modes); got != c.want {
-			t.Errorf("%d modes: %d kinds, want %d", len(c.modes), got, c.want)
-		}
-	}
-	all := table(257, nil)
-	for b := range all.Next[0] {
-		all.Next[1][b] = b
-	}
-	if got := byteKinds([]Mode{one, {Table: all}}); got != 256 {
-		t.Errorf("all bytes differ: %d", got)
-	}
-}
-
 func TestReport(t *testing.T) {
-	one := Mode{Table: table(4, map[int]int{2: 0, 3: 2}, "1 a 2", "2 a 3"), Empty: []bool{false, true, false}}
-	two := Mode{Table: table(5, map[int]int{2: 0, 3: 0}, "1 a 2", "2 a 4", "4 a 3"), Empty: []bool{true}}
-	r := Report([]Mode{one, two}, false)
-	if got := fmt.Sprint(r); got != "{[{4 1     } {5 2     }] [false true false false] [false true false true] 2 true 0}" {
+	one := states.Mode{Table: table(4, map[int]int{2: 0, 3: 2}, "1 a 2", "2 a 3"), Empty: []bool{false, true, false}}
+	two := states.Mode{Table: table(5, map[int]int{2: 0, 3: 0}, "1 a 2", "2 a 4", "4 a 3"), Empty: []bool{true}}
+	r := Report([]states.Mode{one, two}, 2, false)
+	if got := fmt.Sprint(r); got != "{[{4 1 a aa   } {5 2 a aaa   }] [false true false false] [false true false true] 2 true 0}" {
 		t.Error(got)
 	}
-	if Report([]Mode{one, two}, true).Stream {
+	if Report([]states.Mode{one, two}, 2, true).Stream {
 		t.Error("a stream, though it is not wanted")
 	}
-	endless := Mode{Table: table(4, map[int]int{2: 0}, "1 a 2", "2 a 3", "3 a 3", "3 b 2"), Empty: []bool{false}}
-	for _, modes := range [][]Mode{{endless, one}, {one, endless}, {one, endless, two}} {
-		if r := Report(modes, false); r.Ahead != -1 || r.Stream {
+	endless := states.Mode{Table: table(4, map[int]int{2: 0}, "1 a 2", "2 a 3", "3 a 3", "3 b 2"), Empty: []bool{false}}
+	for _, modes := range [][]states.Mode{{endless, one}, {one, endless}, {one, endless, two}} {
+		if r := Report(modes, 2, false); r.Ahead != -1 || r.Stream {
 			t.Errorf("ahead %d, stream: %v", r.Ahead, r.Stream)
 		}
 	}
