@@ -5,7 +5,7 @@ import (
 	"lexer/tables"
 )
 
-// takeOfStream: a byte is taken when those ahead of which one must look have come behind it.
+// takeOfStream: a byte is taken when as many bytes have come behind it as one looks ahead.
 func (r *Run) takeOfStream(b byte) {
 	r.held.add(b)
 	r.ahead = r.tables.Further(r.ahead, r.tables.Kinds[b])
