@@ -94,8 +94,19 @@ func (s *Scanner) Close() []api.Event {
 	return s.run.Close()
 }
 
-// Bytes tells the lexer as bytes (P10).
-func (x *Lexer) Bytes() string { return "" }
+// Bytes tells the lexer as bytes (P10). Those of no lexer are none.
+func (x *Lexer) Bytes() string {
+	if x == nil || x.tables == nil {
+		return ""
+	}
+	return x.tables.Bytes()
+}
 
 // Load makes the lexer that bytes are (P10).
-func Load(b string) (*Lexer, api.Errno) { return nil, api.OK }
+func Load(b string) (*Lexer, api.Errno) {
+	t, ok := tables.Load(b)
+	if !ok {
+		return nil, api.ErrBytes
+	}
+	return &Lexer{tables: t}, api.OK
+}

@@ -8,8 +8,14 @@ import (
 	"lexer/api"
 )
 
-// plays: pieces, and by each the events that its Push tells, a dash if there are none (nil); behind the last piece comes Close.
+// plays: pieces, and by each the events that its Push tells, a dash if there are none (nil); behind the last piece comes Close. The lexer that is loaded from the bytes of this one must tell the same.
 func plays(t *testing.T, x *Lexer, steps ...string) {
+	t.Helper()
+	playsAlone(t, x, steps)
+	playsAlone(t, loaded(t, x), steps)
+}
+
+func playsAlone(t *testing.T, x *Lexer, steps []string) {
 	t.Helper()
 	s := x.Begin()
 	w := ""
@@ -207,7 +213,8 @@ func TestBehindTheLastEvent(t *testing.T) {
 func TestScannersByTurns(t *testing.T) {
 	var lexers []*Lexer
 	for _, s := range []string{example2, example3, `mode m; o >m \(; c < \); w . [a-z]+; s - [ \n]`, `mode m; q >s '; w . [^']; mode s; t . [^']+; q < '`} {
-		lexers = append(lexers, made(t, s, wide), made(t, s, holding(5)))
+		one, two := made(t, s, wide), made(t, s, holding(5))
+		lexers = append(lexers, one, two, loaded(t, one), loaded(t, two))
 	}
 	type turn struct {
 		x   *Lexer
@@ -247,35 +254,41 @@ func spoil(list []api.Event) {
 	}
 }
 
-// P2: lists are the caller's, with their spare room.
+// P2: lists are the caller's, with their spare room, of loaded lexers too.
 func TestListsOfEvents(t *testing.T) {
 	for _, s := range []string{`mode m; a . a; b - b`, `mode m; a . a+; b - b`, `mode m; a . a; b . a*b`} {
 		for _, l := range []api.Limits{wide, holding(9)} {
 			x := made(t, s, l)
-			w := strings.Repeat("aaab", 9)
-			want := x.Scan(w)
-			spoil(x.Scan(w))
-			one, two := x.Begin(), x.Begin()
-			var got, other []api.Event
-			var lists [][]api.Event
-			for i := range w {
-				list := one.Push(w[i : i+1])
-				got = append(got, list...)
-				spoil(list)
-				same := two.Push(w[i : i+1])
-				other = append(other, same...)
-				lists = append(lists, same)
-			}
-			got = append(got, one.Close()...)
-			end := two.Close()
-			other = append(other, end...)
-			for _, list := range append(lists, end) {
-				spoil(append(list, api.Event{}))
-			}
-			if !reflect.DeepEqual(got, want) || !reflect.DeepEqual(other, want) || !reflect.DeepEqual(x.Scan(w), want) {
-				t.Errorf("%s: lists that are written into change others", s)
-			}
+			listsAreTheCallers(t, x)
+			listsAreTheCallers(t, loaded(t, x))
 		}
+	}
+}
+
+func listsAreTheCallers(t *testing.T, x *Lexer) {
+	t.Helper()
+	w := strings.Repeat("aaab", 9)
+	want := x.Scan(w)
+	spoil(x.Scan(w))
+	one, two := x.Begin(), x.Begin()
+	var got, other []api.Event
+	var lists [][]api.Event
+	for i := range w {
+		list := one.Push(w[i : i+1])
+		got = append(got, list...)
+		spoil(list)
+		same := two.Push(w[i : i+1])
+		other = append(other, same...)
+		lists = append(lists, same)
+	}
+	got = append(got, one.Close()...)
+	end := two.Close()
+	other = append(other, end...)
+	for _, list := range append(lists, end) {
+		spoil(append(list, api.Event{}))
+	}
+	if !reflect.DeepEqual(got, want) || !reflect.DeepEqual(other, want) || !reflect.DeepEqual(x.Scan(w), want) {
+		t.Error("lists that are written into change others")
 	}
 }
 

@@ -53,8 +53,14 @@ func wellFormed(t *testing.T, w string, list []api.Event) {
 	}
 }
 
-// scans: the events of a text; also if it comes in pieces, of each length, with empty ones between.
+// scans: the events of a text; also if it comes in pieces, of each length, with empty ones between; and the same of the lexer that is loaded from the bytes of this one.
 func scans(t *testing.T, x *Lexer, w string, want string) {
+	t.Helper()
+	scansAlone(t, x, w, want)
+	scansAlone(t, loaded(t, x), w, want)
+}
+
+func scansAlone(t *testing.T, x *Lexer, w string, want string) {
 	t.Helper()
 	list := x.Scan(w)
 	wellFormed(t, w, list)

@@ -1,6 +1,17 @@
 package tables
 
+import "lexer/api"
+
 // What lies ahead are the next Ahead bytes, as a number: their kinds are its digits, the first the highest, and the text's end is the digit above all kinds.
+
+// Rows tells how many ways there are that may lie ahead; if there are too many of them, any number that is too great.
+func Rows(kinds int, ahead int) int {
+	rows := 1
+	for i := 0; i < ahead && rows <= api.MaxExt; i++ {
+		rows *= kinds + 1
+	}
+	return rows
+}
 
 // End tells the digit of the text's end.
 func (t *Tables) End() int {
@@ -20,10 +31,9 @@ func (t *Tables) Longer(ahead int, s int) bool {
 
 func (t *Tables) setAhead(ahead int) {
 	t.Ahead = ahead
-	t.rows = 1
+	t.rows = Rows(t.Count, ahead)
 	list := make([]bool, len(t.Next))
 	for i := 0; i < ahead; i++ {
-		t.rows *= t.Count + 1
 		list = t.withOneMore(list)
 	}
 	t.longer = packed(list)

@@ -3,7 +3,7 @@ package tables
 
 import "lexer/states"
 
-// None is told instead of a rule where there is none.
+// None is told instead of a rule where there is none. It is -1, so that a rule and one is a number for bytes.
 const None = states.None
 
 // Tables: the states of all modes, one mode's behind the other's, and what the rules do. Who has them only reads them.

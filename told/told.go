@@ -4,6 +4,7 @@ package told
 import (
 	"lexer/api"
 	"lexer/states"
+	"lexer/tables"
 )
 
 // Report tells of the modes, and of the kinds of bytes that they have; the rules of all are told in their order.
@@ -53,11 +54,7 @@ func hasRule(t states.Table, rule int) bool {
 	return false
 }
 
-// isStream: the table of what may lie ahead has a digit more than there are kinds of bytes, for the text's end.
+// isStream: a table of what may lie ahead must not have too many rows.
 func isStream(ahead int, kinds int) bool {
-	rows := 1
-	for i := 0; i < ahead && rows <= api.MaxExt; i++ {
-		rows *= kinds + 1
-	}
-	return ahead >= 0 && rows <= api.MaxExt
+	return ahead >= 0 && tables.Rows(kinds, ahead) <= api.MaxExt
 }
